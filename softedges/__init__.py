@@ -1,1 +1,1 @@
-"""How far from the edge: cells of a page are chosen, and the choice is grown, shrunk and filled."""
+"""How far from the edge: cells of a page are chosen, and the choice is changed, told and given a soft edge."""

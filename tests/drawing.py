@@ -37,6 +37,34 @@ def fill():
     return [7]
 
 
+def keep(x, y):
+    return [8, x, y]
+
+
+def far(x, y):
+    return [9, x, y]
+
+
+def soft(k):
+    return [10, k]
+
+
+def runs():
+    return [11]
+
+
+def counts():
+    return [12]
+
+
+def pieces():
+    return [13]
+
+
+def holes():
+    return [14]
+
+
 def line(calls):
     """The calls one behind another, as they are handed in."""
     if not 1 <= len(calls) <= 40:
@@ -47,19 +75,40 @@ def line(calls):
     return numbers
 
 
+def told(*calls):
+    """What is answered to each call, a list of numbers each."""
+    given = answers(line(calls))
+    found = []
+    place = 0
+    while place < len(given):
+        count = given[place]
+        found.append(given[place + 1:place + 1 + count])
+        if count < 1 or len(found[-1]) != count:
+            raise AssertionError("a count doesn't tell how many numbers follow: %r" % (given,))
+        place += 1 + count
+    if len(found) != len(calls):
+        raise AssertionError("not one answer for each call: %r" % (given,))
+    return found
+
+
+def last(*calls):
+    """What is answered to the last call."""
+    return told(*calls)[-1]
+
+
 def ask(*calls):
     """What is answered to each call, one number each."""
-    given = answers(line(calls))
-    if given[0::2] != [1] * len(calls):
-        raise AssertionError("not one number for each call: %r" % (given,))
-    return given[1::2]
+    found = told(*calls)
+    if any(len(numbers) != 1 for numbers in found):
+        raise AssertionError("not one number for each call: %r" % (found,))
+    return [numbers[0] for numbers in found]
 
 
 def rows_of(picture):
     return picture.split()
 
 
-def runs(picture):
+def runs_in(picture):
     """Row, first column and length of each run of # in the picture."""
     found = []
     for y, row in enumerate(rows_of(picture)):
@@ -75,13 +124,13 @@ def runs(picture):
 def draw(picture):
     """Calls after which just the cells with a # are chosen."""
     rows = rows_of(picture)
-    return [page(len(rows[0]), len(rows))] + [box(x, y, length, 1, 1) for y, x, length in runs(picture)]
+    return [page(len(rows[0]), len(rows))] + [box(x, y, length, 1, 1) for y, x, length in runs_in(picture)]
 
 
 def look(columns, rows, *calls):
     """The picture of what is chosen after the calls, asked cell by cell."""
     return [
-        "".join("#" if ask(*calls, box(x, y, 1, 1, 3))[-1] else "." for x in range(columns))
+        "".join("#" if last(*calls, box(x, y, 1, 1, 3))[0] else "." for x in range(columns))
         for y in range(rows)
     ]
 
@@ -90,3 +139,11 @@ def changed(picture, *calls):
     """The picture after the calls, which leave the page's size as it is."""
     rows = rows_of(picture)
     return look(len(rows[0]), len(rows), *draw(picture), *calls)
+
+
+def checkered(w, h):
+    """Calls after which every other cell of a w by h page is chosen, the first one not among them."""
+    return (
+        [page(w, h)]
+        + [box(x, 0, 1, h, 4) for x in range(1, w, 2)]
+        + [box(0, y, w, 1, 4) for y in range(1, h, 2)])

@@ -3,12 +3,16 @@ import subprocess
 import sys
 import unittest
 
-from drawing import GREATEST, ask, box, disk, fill, grow, line, over, page, ring, shrink
+from drawing import (
+    GREATEST, ask, box, counts, disk, far, fill, grow, holes, keep, line, over, page, pieces, ring, runs, shrink, soft,
+    told)
 from softedges.pages import answers
 
 ALL_SORTS = [
     page(7, 6), box(1, 1, 4, 4, 0), box(2, 2, 1, 1, 2), fill(), disk(5, 5, 2, 4), over(), grow(1), ring(2),
     shrink(0, 1), shrink(1, 1), over(), page(17, 1), box(0, 0, 1, 1, 5), disk(0, 0, 1, 5), shrink(2, 0), over(),
+    far(0, 0), far(7, 0), keep(0, 0), box(1, 1, 4, 4, 0), box(2, 2, 1, 1, 2), box(6, 5, 1, 1, 1), far(5, 3), soft(3),
+    soft(0), soft(65), runs(), counts(), pieces(), holes(), keep(6, 5), keep(0, 6), counts(), runs(), holes(), over(),
 ]
 
 ROOT = os.path.dirname(os.path.dirname(os.path.abspath(__file__)))
@@ -29,6 +33,33 @@ class AnswersTest(unittest.TestCase):
         self.assertEqual(
             answers([0, 3, 3, 3, 0, 17, 1, 1, 0, 0, 1, 1, 5, 2, 0, 0, 1, 5, 5, 2, 1, 7, 3, 3]),
             [1, 0, 1, 9, 1, -1, 1, -2, 1, -2, 1, -2, 1, 9, 1, 0, 1, 9])
+
+    def test_the_calls_that_answer_more_than_one_number(self):
+        self.assertEqual(
+            answers([0, 4, 3, 1, 0, 0, 3, 3, 0, 2, 1, 1, 0, 2, 9, 3, 1, 10, 1, 11, 12, 13, 14, 8, 2, 0]),
+            [1, 0, 1, 9, 1, 8, 3, 1, 2, 1, 12, 255, 255, 255, 0, 255, 0, 255, 0, 255, 255, 255, 0,
+             13, 4, 0, 0, 2, 1, 0, 0, 1, 2, 2, 2, 0, 2, 8, 8, 0, 2, 0, 2, 16, 1, 1, 4, 1, 0, 0, 8, 4, 1, 1, 1, 1, 1, 8])
+        self.assertEqual(answers([9, 0, 0]), [1, -3])
+        self.assertEqual(answers([10, 1, 11, 12, 13, 14]), [1, 0, 1, 0, 4, 0, 0, 0, 0, 1, 0, 1, 0])
+
+    def test_more_refusals_among_other_calls(self):
+        self.assertEqual(
+            answers([8, 0, 0, 9, 0, 0, 9, 1, 0, 10, 0, 10, 65, 3, 8, 1, 0, 9, 0, 1, 10, 64, 8, 0, 0]),
+            [1, -3, 1, -3, 1, -1, 1, -1, 1, -1, 1, 1, 1, -3, 1, -1, 1, 255, 1, 1])
+
+    def test_both_stages_together(self):
+        found = told(*ALL_SORTS)
+        self.assertEqual(len(found), 36)
+        self.assertEqual(found[16:23], [[-3], [-1], [-3], [16], [15], [16], [1, 4, 3]])
+        self.assertEqual(len(found[23]), 42)
+        self.assertEqual(found[24:26], [[-1], [-1]])
+        self.assertEqual(found[26], [6, 1, 1, 4, 2, 1, 1, 2, 3, 4, 3, 1, 4, 4, 1, 4, 5, 6, 6])
+        self.assertEqual(found[27:30], [[16, 1, 6, 1, 5, 24, 2, 1], [2, 1, 1, 15, 6, 5, 1], [1, 2, 2, 1]])
+        self.assertEqual(found[30:], [[1], [-3], [1, 6, 6, 5, 5, 4, 1, 0], [1, 5, 6, 6], [0], [41]])
+
+    def test_40_calls_that_answer_most(self):
+        given = answers([0, 16, 16, 3] + [10, 64] * 38)
+        self.assertEqual(given, [1, 0, 1, 256] + ([256] + [255] * 256) * 38)
 
     def test_40_calls(self):
         self.assertEqual(ask(page(16, 16), *[over()] * 39), [0] + [256, 0] * 19 + [256])
@@ -65,6 +96,8 @@ class AnswersTest(unittest.TestCase):
         self.assertEqual(answers([0, 9, 9, 3]), [1, 0, 1, 81])
         self.assertEqual(answers([3]), [1, 1])
         self.assertEqual(answers([1, 0, 0, 9, 9, 3]), [1, 0])
+        self.assertEqual(answers([9, 0, 0, 13]), [1, -3, 1, 0])
+        self.assertEqual(answers([12]), [4, 0, 0, 0, 0])
 
     def test_an_answer_is_not_changed_by_a_later_one(self):
         first = answers([0, 9, 9, 3])
@@ -83,7 +116,8 @@ class AnswersTest(unittest.TestCase):
         calls = [page(g, g), page(16, 16), box(0, 0, g, g, 0), box(g, g, g, g, 1), box(1, 1, g, g, 2)]
         calls += [disk(g, g, g, 1), disk(0, 0, g, 4), grow(g), over(), box(3, 3, 1, 1, 0), ring(g), shrink(0, g)]
         calls += [over(), shrink(0, g), shrink(1, g), box(g, g, g, g, g), disk(g, g, g, g), shrink(g, g), fill()]
-        expected = [-1, 0, 256, 256, 31, 31, 225, 256, 0, 1, 255, 0, 256, 256, 0, -2, -2, -2, 0]
+        calls += [keep(g, g), far(g, g), soft(g), over()]
+        expected = [-1, 0, 256, 256, 31, 31, 225, 256, 0, 1, 255, 0, 256, 256, 0, -2, -2, -2, 0, -3, -1, -1, 256]
         # In a process of its own, so that a program that counts up to such a number is stopped and told.
         program = "from softedges.pages import answers\nprint(answers(%r)[1::2])\n" % (line(calls),)
         done = subprocess.run([sys.executable, "-c", program], cwd=ROOT, capture_output=True, text=True, timeout=20)

@@ -121,6 +121,35 @@ class LanguageTest(unittest.TestCase):
                     self.assertIn(node.module.split(".")[1], files, where)
                     self.assertIn(node, tree.body, where)
 
+    def test_no_two_files_draw_from_one_another(self):
+        drawn = {
+            name[:-3]: {node.module.split(".")[1] for node in tree.body if isinstance(node, ast.ImportFrom)}
+            for name, tree in trees()}
+        while drawn:
+            free = [name for name in drawn if not drawn[name] & set(drawn)]
+            self.assertTrue(free, drawn)
+            for name in free:
+                drawn.pop(name)
+
+    def test_drawn_names_are_defined_there_and_used(self):
+        defined = {}
+        for name, tree in trees():
+            defined[name[:-3]] = {node.name for node in tree.body if isinstance(node, (ast.FunctionDef, ast.ClassDef))}
+            defined[name[:-3]] |= {node.targets[0].id for node in tree.body if isinstance(node, ast.Assign)}
+        for name, tree in trees():
+            used = {node.id for node in ast.walk(tree) if isinstance(node, ast.Name)}
+            for node in tree.body:
+                if isinstance(node, ast.ImportFrom):
+                    for bound in node.names:
+                        self.assertIn(bound.name, defined[node.module.split(".")[1]], name)
+                        self.assertIn(bound.name, used, name)
+
+    def test_is_stands_beside_none_true_and_false_alone(self):
+        for name, tree in trees():
+            for node in ast.walk(tree):
+                if isinstance(node, ast.Compare) and isinstance(node.ops[0], (ast.Is, ast.IsNot)):
+                    self.assertIsInstance(node.comparators[0], ast.Constant, (name, node.lineno))
+
     def test_names(self):
         for name, tree in trees():
             own = {bound for bound, row in bound_names(tree)}

@@ -3,7 +3,8 @@
 import random
 import unittest
 
-from drawing import GREATEST, ask, box, disk, fill, grow, look, over, page, ring, shrink
+from drawing import (
+    GREATEST, box, counts, disk, far, fill, grow, holes, keep, look, over, page, pieces, ring, runs, shrink, soft, told)
 from model import Model
 
 
@@ -25,6 +26,13 @@ def some_call(source, w, h):
         shrink(source.choice((0, 0, 0, 1, 1, 1, 2)), r),
         ring(r),
         fill(),
+        keep(x, y),
+        far(x, y),
+        soft(source.choice((0, 1, 2, 3, 4, 5, 7, 10, 16, 33, 64, 65))),
+        runs(),
+        counts(),
+        pieces(),
+        holes(),
     ))
 
 
@@ -40,11 +48,21 @@ def some_fill(source):
     return [page(w, h), over()] + dots[:source.randint(1, 30)] + [fill()]
 
 
+def some_scattered(source):
+    """Scattered cells, for each line more or fewer, and then all that can be told of them, and one piece of them."""
+    w, h = source.randint(1, 16), source.randint(1, 16)
+    dots = [box(source.randrange(w), source.randrange(h), source.randint(1, 3), source.randint(1, 3), 4)
+            for place in range(source.randint(1, 26))]
+    x, y = source.randint(0, w), source.randint(0, h)
+    asked = [soft(source.randint(1, 64)), runs(), counts(), pieces(), holes(), far(x, y), keep(x, y), counts()]
+    return [page(w, h)] + [over()] * source.randint(0, 1) + dots + asked
+
+
 class ModelTest(unittest.TestCase):
     def check(self, calls):
         model = Model()
         expected = [model.answer(call) for call in calls]
-        self.assertEqual(ask(*calls), expected, calls)
+        self.assertEqual(told(*calls), expected, calls)
 
     def within(self, calls):
         """As many of the calls as one line may have numbers for."""
@@ -64,14 +82,17 @@ class ModelTest(unittest.TestCase):
             model = Model()
             for call in calls:
                 model.answer(call)
-            expected = [
-                "".join("#" if (x, y) in model.chosen else "." for x in range(model.w)) for y in range(model.h)]
-            self.assertEqual(look(model.w, model.h, *calls), expected, calls)
+            self.assertEqual(look(model.w, model.h, *calls), model.picture(), calls)
 
     def test_fill(self):
         source = random.Random(2)
         for number in range(300):
             self.check(self.within(some_fill(source)))
+
+    def test_all_that_is_told_of_scattered_cells(self):
+        source = random.Random(4)
+        for number in range(150):
+            self.check(self.within(some_scattered(source)))
 
 
 if __name__ == "__main__":
